@@ -11,8 +11,8 @@ func limitsHold(s api.State) bool {
 		s.Room >= 0 && s.Room <= api.MaxStore && len(s.Store) <= s.Room
 }
 
-// absentIsZero asks that a key that is not there is zero: otherwise one state
-// would have many records.
+// absentIsZero asks that a key that is not there is zero, so that states that
+// say the same are equal, and nothing is left of a key that has gone.
 func absentIsZero(s api.State) bool {
 	none := api.Key{}
 	return (s.HasOwn || s.Priv == none && s.Pub == none) &&
