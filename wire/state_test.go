@@ -107,6 +107,10 @@ func allowed() []change {
 }
 
 func forbidden() []change {
+	return slices.Concat(forbiddenLimits(), forbiddenKeys(), forbiddenEntries())
+}
+
+func forbiddenLimits() []change {
 	return []change{
 		{"rule 1: Skip -1", func(s *api.State) { s.Skip = -1 }},
 		{"rule 1: Skip past its limit", func(s *api.State) { s.Skip = api.MaxSkip + 1 }},
@@ -115,6 +119,11 @@ func forbidden() []change {
 		{"rule 1: an entry more than Room", func(s *api.State) { s.Room = len(s.Store) - 1 }},
 		{"rule 1: entries without room", func(s *api.State) { s.Room = 0 }},
 		{"rule 1: an entry more than the limit of Room", func(s *api.State) { s.Store, s.Room = storedState(api.MaxStore+1).Store, api.MaxStore }},
+	}
+}
+
+func forbiddenKeys() []change {
+	return []change{
 		{"rule 3: Priv without HasOwn", func(s *api.State) {
 			*s = freshState()
 			s.Priv = noiseKey(32)
@@ -149,6 +158,11 @@ func forbidden() []change {
 			*s = freshState()
 			s.HasOwn, s.HasPeer, s.Peer, s.RecvEpoch = true, false, api.Key{}, 1
 		}},
+	}
+}
+
+func forbiddenEntries() []change {
+	return []change{
 		{"rule 6: an entry of epoch 0", func(s *api.State) { s.Store[0].Epoch = 0 }},
 		{"rule 6: an entry past RecvEpoch", func(s *api.State) { s.Store[4].Epoch++ }},
 		{"rule 6: an entry ahead of the first chain", func(s *api.State) { s.RecvEpoch, s.Nr, s.Recv, s.Store = 0, 0, api.Key{}, s.Store[:1] }},
